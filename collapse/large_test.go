@@ -60,3 +60,25 @@ func TestLargeFar(t *testing.T) {
 		}
 	}
 }
+
+// P11.2: a triangle that is met is found among others that are scattered far around it,
+// whether these are few or many.
+func TestP11_2Scattered(t *testing.T) {
+	g := generator(72)
+	u, ring := at(0, 0, 4), []api.Point{at(-10, 0, 0), at(5, -9, 0), at(5, 9, 0)}
+	met := tris(at(0, 0, -5), at(1, 1, -5), at(0, 1, 1))
+	for range 3000 {
+		l := wheel(u, ring...)
+		for range g.below(30) {
+			by := at(g.between(5000), g.between(5000), g.between(5000))
+			if max(by.X, -by.X, by.Y, -by.Y, by.Z, -by.Z) > 100 {
+				l = append(l, shifted(met, by)...)
+			}
+		}
+		if mesh.CheckOpen(l) != api.OK {
+			continue
+		}
+		checkAllowed(t, g.shuffled(l), u, ring[0], true)
+		checkAllowed(t, g.shuffled(append(l, met...)), u, ring[0], false)
+	}
+}
